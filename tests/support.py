@@ -1,0 +1,126 @@
+"""What the tests share: the books of the document, wrong values, and seeded choices."""
+
+from itertools import product
+from random import Random
+
+from millhands.books import Book
+from millhands.fans import Fan
+from millhands.readers import Reader
+from millhands.tellers import Teller
+
+POP = Book("abx", (("a", "x", ""), ("b", "x", "")))
+TURN = Book("ab", (("a", "b", "b"), ("b", "a", "a")))
+PAIRS = Book("ab", (("a", "a", ""), ("b", "b", "")))
+MARKS = Book("am", (("m", "m", "m"),))
+PLAIN = Book("ab", ())
+BRACKETS = Book("ab", (("a", "b", ""),))
+ONE = Book("a", (("a", "a", ""),))
+BOOKS = (POP, TURN, PAIRS, MARKS, PLAIN, BRACKETS, ONE)
+X = Reader("abx", (("reads", "x", 1, 1, 2), ("stops", ""), ("stops", "xx")))
+WRONG = (None, True, False, 0, 1, -1, 10 ** 39, "", "?", "a", "A", "ba", "aa", " ", "a\nb", (), ("a",), (1,), (True,), [],
+         ["a"], {}, {"a": 1}, ((),), ((0, 0),), ((), ()), POP, X, Teller("ab", (("says", True),)),
+         Fan("ab", (("stops", ()),)), ("none",), ("stops", ""), (("stops", ""),), [("stops", "")], "~", "book a",
+         ((((((((((((),),),),),),),),),),),))
+
+
+def webs_to(letters, length):
+    """All webs of at most so many letters, in order."""
+    return ["".join(web) for many in range(length + 1) for web in product(letters, repeat=many)]
+
+
+def some_web(random, letters, length):
+    return "".join(random.choice(letters) for _ in range(random.randint(0, length)))
+
+
+def some_book(random, letters):
+    folds = []
+    for last in letters:
+        for laid in letters:
+            kind = random.random()
+            if kind < 0.35:
+                folds.append((last, laid, ""))
+            elif kind < 0.6:
+                folds.append((last, laid, random.choice(letters)))
+    return Book(letters, tuple(folds))
+
+
+def some_next(random, many, letters):
+    return tuple(random.randrange(many) for _ in letters)
+
+
+def some_reader(random, letters, many, length=3):
+    nodes = []
+    for _ in range(many):
+        kind = random.random()
+        if kind < 0.6:
+            bare = None if random.random() < 0.3 else some_web(random, letters, length)
+            nodes.append(("reads", bare) + some_next(random, many, letters))
+        else:
+            nodes.append(("stops", some_web(random, letters, length)) if kind < 0.9 else ("none",))
+    return Reader(letters, tuple(nodes))
+
+
+def some_ends(random, letters, many):
+    nodes = []
+    for _ in range(many):
+        value = random.random() < 0.5
+        nodes.append(("reads", value) + some_next(random, many, letters) if random.random() < 0.8 else ("says", value))
+    return Teller(letters, tuple(nodes))
+
+
+def some_words(random, letters, length=3, most=3):
+    return tuple(sorted({some_web(random, letters, length) for _ in range(random.randint(0, most))}))
+
+
+def some_fan(random, letters, many):
+    nodes = []
+    for at in range(many):
+        words = some_words(random, letters)
+        if at + 1 < many and random.random() < 0.8:
+            nodes.append(("reads", words) + tuple(random.randrange(at + 1, many) for _ in letters))
+        else:
+            nodes.append(("stops", words))
+    return Fan(letters, tuple(nodes))
+
+
+def some_weft(random, letters, most):
+    looks = ["?" + letter for letter in letters + "-"]
+    return tuple(random.choice(list(letters) + looks) for _ in range(random.randint(0, most)))
+
+
+def some_log(random, letters, lots, items):
+    """A log of so many lots, and at most so many items together."""
+    log = []
+    for number in range(lots):
+        earlier = tuple(ahead for ahead in range(number) if random.random() < 0.2)
+        log.append((number, random.random() < 0.4, earlier, some_weft(random, letters, items // lots)))
+    return tuple(log)
+
+
+def seeded(number):
+    return Random(number)
+
+
+def altered(thing):
+    """Values that come of a value by another part somewhere, by one left out, one more, or a list for a tuple."""
+    yield from [None, 1, True, "q", (), [thing]]
+    if isinstance(thing, tuple):
+        yield list(thing)
+        yield thing + (0,)
+        yield thing + thing[-1:]
+        for at in range(len(thing)):
+            yield thing[:at] + thing[at + 1:]
+            for part in altered(thing[at]):
+                yield thing[:at] + (part,) + thing[at + 1:]
+    elif isinstance(thing, str):
+        yield thing + "z"
+        yield thing[:-1] + "q"
+    elif isinstance(thing, bool):
+        yield int(thing)
+        yield not thing
+    elif isinstance(thing, int):
+        yield thing + 1
+        yield -thing - 1
+        yield str(thing)
+        if thing in (0, 1):
+            yield bool(thing)
