@@ -1,0 +1,111 @@
+"""[0.2]: names and order of parameters, where they are defined, and that nothing passed is changed."""
+
+import ast
+import importlib
+import inspect
+import pathlib
+import unittest
+
+from millhands.books import Book, laid_on, led
+from millhands.ledsets import led_from
+from millhands.logs import handed, joined_logs, kept
+from millhands.readers import Reader, joined
+from millhands.sheds import shed, sound_set
+from millhands.tellers import Teller, both
+from tests.support import POP, X, seeded, some_ends
+
+ROOT = pathlib.Path(__file__).resolve().parent.parent
+INTERFACE = {
+    "books": "Book(letters, folds) is_web(letters, thing) is_ahead(one, other) laid_on(book, web, letter) "
+             "led(book, web, row)",
+    "reach": "can_go(book, letter) going_row(book, letter) judge_going(book, letter) going_holds(book, letter, thing) "
+             "turned_into(book, letter) built_on(book, last) can_reach(book, web, other) first_row(book, web, other) "
+             "judge_reach(book, web, other) reach_holds(book, web, other, thing) settled(book, web)",
+    "readers": "Reader(letters, nodes) unchanged(letters) joined(one, other) letters_read(reader) are_alike(one, other)",
+    "tellers": "Teller(letters, nodes) is_end_set(thing) ends_text(ends) ends_read(text) all_webs(letters) "
+               "no_webs(letters) lone_web(letters, web) ending(letters, end) both(one, other) either(one, other) "
+               "but_not(one, other) is_empty(ends) is_within(one, other) first_web(ends) many_webs(ends, length) "
+               "longest(ends) judge_within(one, other) within_holds(one, other, thing)",
+    "ledsets": "domain(reader) alike_set(one, other) led_into(reader, ends) led_from(reader, ends, *, most=400) "
+               "first_apart(one, other) judge_alike(one, other) alike_holds(one, other, thing)",
+    "fans": "Fan(letters, nodes) gathered(letters, readers, *, most=400) where_made(fan) first_forked(fan) only_ones(fan)",
+    "wefts": "is_item(letters, thing) is_weft(letters, thing) weft_text(weft) weft_read(letters, text) "
+             "done(book, weft, web) fails_at(book, weft, web) reader_of(book, weft)",
+    "passing": "passing_set(word, one, other) do_pass(word, one, other, *, ends=None) "
+               "first_barred(word, one, other, *, ends=None) judge_passing(word, one, other, *, ends=None) "
+               "passing_holds(word, one, other, thing, *, ends=None)",
+    "items": "items_of(book) do_items_pass(book, word, item, further) barred_items(book, word) circles(book, word) "
+             "do_wefts_pass(book, word, one, other)",
+    "moving": "do_move(book, one, other) judge_moved(book, one, other) moved_holds(book, one, other, thing) "
+              "first_form(book, weft) steps_of(book, weft) many_moved(book, weft) all_moved(book, weft)",
+    "logs": "is_log(letters, thing) outcomes(log) orders(log, outcome) weft_of(log, order) handed(log, number) "
+            "taken_out(log, number) kept(log, numbers) with_item(log, number, item) joined_logs(one, other)",
+    "sheds": "shed(book, log, outcome, *, most=400) shed_on(book, log, outcome, web) "
+             "first_order(book, log, outcome, web) is_sound(book, log, web) sound_set(book, log) "
+             "first_unsound(book, log) certain_set(book, log, outcome) free_set(book, log, number)",
+}
+METHODS = {
+    ("books", "Book"): "read(text) left_of(self, last, laid)",
+    ("readers", "Reader"): "read(text) made(self, web) read_of(self, web) least(self) is_least(self)",
+    ("tellers", "Teller"): "says(self, web) least(self) is_least(self)",
+    ("fans", "Fan"): "made(self, web) least(self) is_least(self)",
+}
+
+
+def signatures(text):
+    """The names and parameters that a text of the interface lists."""
+    for part in text.replace(") ", ")\n").split("\n"):
+        name, parameters = part.rstrip(")").split("(")
+        yield name, "(" + parameters + ")"
+
+
+class Conventions(unittest.TestCase):
+    def test_names_and_parameters(self):
+        for stem, text in INTERFACE.items():
+            module = importlib.import_module("millhands." + stem)
+            tree = ast.parse((ROOT / "millhands" / (stem + ".py")).read_text())
+            defined = {node.name for node in tree.body if isinstance(node, (ast.FunctionDef, ast.ClassDef))}
+            for name, parameters in signatures(text):
+                self.assertEqual(str(inspect.signature(getattr(module, name))), parameters, name)
+                self.assertIn(name, defined)
+
+    def test_methods_are_in_their_classes(self):
+        for (stem, name), text in METHODS.items():
+            kind = getattr(importlib.import_module("millhands." + stem), name)
+            for method, parameters in signatures(text):
+                self.assertIn(method, vars(kind))
+                self.assertEqual(str(inspect.signature(getattr(kind, method))), parameters, method)
+            for method in ("__init__", "__len__", "__eq__"):
+                self.assertIn(method, vars(kind))
+
+    def test_nothing_passed_is_changed(self):
+        random = seeded(100)
+        ends = some_ends(random, "abx", 5)
+        log = ((0, False, (), ("a",)), (1, True, (0,), ("?a",)))
+        before = (str(POP), str(X), ends.nodes, log)
+        for _ in range(2):
+            laid_on(POP, "ab", "x")
+            led(POP, "ab", "x")
+            joined(X, X)
+            led_from(X, ends, most=5000)
+            both(ends, ends)
+            handed(log, 0)
+            kept(log, (0,))
+            joined_logs(log, log)
+            shed(POP, log, (0, 1))
+            sound_set(POP, log)
+            self.assertEqual((str(POP), str(X), ends.nodes, log), before)
+
+    def test_the_same_call_returns_an_equal_result(self):
+        random = seeded(101)
+        for _ in range(5):
+            ends = some_ends(random, "abx", 6)
+            again = Teller(ends.letters, ends.nodes)
+            self.assertEqual(led_from(X, ends, most=5000), led_from(Reader(X.letters, X.nodes), again, most=5000))
+
+    def test_objects_of_unlike_classes_are_unequal(self):
+        objects = [Book("ab", ()), Reader("ab", (("none",),)), Teller("ab", (("says", True),)),
+                   importlib.import_module("millhands.fans").Fan("ab", (("stops", ()),))]
+        for one in objects:
+            for other in objects:
+                self.assertEqual(one == other, one is other)
