@@ -309,20 +309,22 @@ def many_apart(nodes):
     The color of a node tells what it says of all webs up to a length that grows; it is None
     from where on this hangs on a node that is not known.
     """
+    width = max([len(nexts_of(node)) for node in nodes])
+    # A node that only says stands for each letter itself: so it is told like one that reads.
+    rows = [nexts_of(node) or (at,) * width for at, node in enumerate(nodes)]
     colors = [node[1] for node in nodes]
     best = 0
     while True:
         numbers = {}
-        fresh = [fresh_color(at, node, colors, numbers) for at, node in enumerate(nodes)]
+        fresh = [fresh_color(colors[at], row, colors, numbers) for at, row in enumerate(rows)]
         if len(numbers) < best or fresh == colors:
             return best
         best = len(numbers)
         colors = fresh
 
 
-def fresh_color(at, node, colors, numbers):
+def fresh_color(color, row, colors, numbers):
     """The color of a node by webs with one letter more; numbers has those that were given."""
-    row = [colors[at]]
-    for to in nexts_of(node) or (at,):
-        row.append(colors[to] if to < len(colors) else None)
-    return None if None in row else numbers.setdefault(tuple(row), len(numbers))
+    behind = [colors[to] if to < len(colors) else None for to in row]
+    key = (color, *behind)
+    return None if None in key else numbers.setdefault(key, len(numbers))

@@ -51,6 +51,7 @@ class Books(unittest.TestCase):
         self.assertEqual(self.part_of("ab", (("b", "a", ""), ("a", "b", ""))), 1)
         self.assertEqual(self.part_of("ab", (("a", "b", ""), ("a", "b", "b"))), 1)
         self.assertEqual(self.part_of("ab", (("a", "b", ""), ("b", "a", ""), ("b", "a", ""))), 2)
+        self.assertEqual(self.part_of("ab", (("a", "a", ""), ("b", "b", ""), ("a", "b", ""))), 2)
 
     def test_equal(self):
         self.assertTrue(POP == Book("abx", (("a", "x", ""), ("b", "x", ""))))
@@ -87,6 +88,7 @@ class Books(unittest.TestCase):
         self.assertEqual(self.line_of("book ab\nfold a b -\nfold a a -"), 3)
         self.assertEqual(self.line_of("book ab\nfold a b -\nfold a b b"), 3)
         self.assertEqual(self.line_of("book ab\nfold a b -\nfold b b -\nfold b c -"), 4)
+        self.assertEqual(self.line_of("book ab\nfold a b -\nfold b b -\nfold b a -"), 4)
 
     def test_left_of(self):
         self.assertEqual(POP.left_of("a", "x"), "")

@@ -170,6 +170,8 @@ class LedSets(unittest.TestCase):
         self.assertFalse(alike_holds(X, X, ("alike", list(X.nodes))))
         self.assertFalse(alike_holds(X, X, ("alike", X)))
         self.assertFalse(alike_holds(X, X, ("alike", X.nodes, ())))
+        self.assertFalse(alike_holds(X, joined(X, X), ("alike", X.nodes)))
+        self.assertFalse(alike_holds(joined(X, X), X, ("alike", X.nodes)))
         self.assertFalse(alike_holds(X, unchanged("abx"), ("apart", "c")))
         self.assertTrue(alike_holds(X, unchanged("abx"), ("apart", "ab" * 30)))
         for thing in WRONG:

@@ -146,6 +146,29 @@ class Reach(unittest.TestCase):
                     else:
                         self.assertFalse(reach_holds(book, web, other, ("barred", ())))
 
+    def test_rows_that_lead_elsewhere(self):
+        for book in all_books()[:12]:
+            webs = webs_to(book.letters, 2)
+            for web in webs:
+                for row in webs_to(book.letters, 3):
+                    for other in webs:
+                        self.assertIs(reach_holds(book, web, other, ("reach", row)), led(book, web, row) == other)
+
+    def test_reasons_beside_the_document(self):
+        for book in all_books():
+            webs = webs_to(book.letters, 3 if len(book) < 3 else 2)
+            for web in webs:
+                for other in webs:
+                    paper = judge_reach(book, web, other)
+                    if paper[0] == "reach":
+                        continue
+                    for level in range(len(paper[1])):
+                        for word in ("apart", "stays", "turn", "build"):
+                            for place in range(-1, 4):
+                                reasons = paper[1][:level] + ((word, place),) + paper[1][level + 1:]
+                                wanted = is_reason_by_hand(book, web, other, level, word, place)
+                                self.assertIs(reach_holds(book, web, other, ("barred", reasons)), wanted)
+
     def test_reasons(self):
         self.assertTrue(reach_holds(PLAIN, "ab", "ba", ("barred", (("stays", 0), ("stays", 1), ("apart", 0)))))
         self.assertTrue(reach_holds(PLAIN, "ab", "ba", ("barred", (("stays", 1), ("turn", 0), ("turn", 1)))))
@@ -208,3 +231,16 @@ def goes_by(book, letter, row):
             return False
         standing = left
     return row != ""
+
+
+def is_reason_by_hand(book, web, other, level, word, place):
+    """Whether a pair tells why a web does not reach another one at a level, as [1.4] says it."""
+    if word == "apart":
+        return 0 <= place < level - 1 and web[place] != other[place]
+    if word == "stays":
+        return level <= place < len(web) and going_row(book, web[place]) is None
+    if word == "turn":
+        return level > 0 and place == level - 1 and other[place] not in turned_into(book, web[place])
+    if not level <= place < len(other):
+        return False
+    return other[place] not in built_on(book, other[place - 1] if place else "")
