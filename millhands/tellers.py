@@ -144,16 +144,18 @@ def no_webs(letters):
     return Teller(letters, (("says", False),))
 
 
-def spelled(letters, web, values):
-    """The machine that reads a web from its end: the values of its inner, last and barred nodes."""
-    inner, last, barred = values
+def spelled(letters, web, whole):
+    """The least end set of a machine that reads a web from its end; whole is its look where all of it was read.
+
+    A state is the number of letters of the web that are left to read, -1 behind any other letter.
+    """
 
     def look(left):
         if left == 0:
-            return last
+            return whole
         if left < 0:
-            return barred
-        return inner, tuple([left - 1 if letter == web[left - 1] else -1 for letter in letters])
+            return False, None
+        return False, tuple([left - 1 if letter == web[left - 1] else -1 for letter in letters])
 
     return told(letters, len(web), look)
 
@@ -161,12 +163,12 @@ def spelled(letters, web, values):
 def lone_web(letters, web):
     """The end set of one web alone."""
     nowhere = tuple([-1 for _ in letters])
-    return spelled(letters, web, (False, (True, nowhere), (False, None)))
+    return spelled(letters, web, (True, nowhere))
 
 
 def ending(letters, end):
     """The end set of all webs that end with a web."""
-    return spelled(letters, end, (False, (True, None), (False, None)))
+    return spelled(letters, end, (True, None))
 
 
 def combined(one, other, truth):
