@@ -216,6 +216,64 @@ def is_within(one, other):
     return is_empty(but_not(one, other))
 
 
+def side_by_side(tellers):
+    """The nodes of some tellers in classes that say the same: that of each start, the next ones, the values."""
+    starts = []
+    nexts = []
+    values = []
+    for teller in tellers:
+        many = len(nexts)
+        starts.append(many)
+        for at, node in enumerate(teller.nodes):
+            nexts.append(tuple([to + many for to in nexts_at(teller.letters, teller.nodes, at)]))
+            values.append(node[1])
+    classes = refined(values, nexts)
+    rows = {classes[at]: tuple([classes[to] for to in row]) for at, row in enumerate(nexts)}
+    return [classes[start] for start in starts], rows, dict(list(zip(classes, values)))
+
+
+def is_covered(ends, parts):
+    """Whether each web of an end set is in one or more of some others.
+
+    Few of the others mostly do: only those that have the first web that is left are taken away.
+    """
+    rest = ends
+    web = first_web(rest)
+    while web is not None:
+        part = next((part for part in parts if part.says(web)), None)
+        if part is None:
+            return False
+        rest = but_not(rest, part)
+        if len(rest) > 1000:
+            return is_covered_at_once(rest, parts)
+        web = first_web(rest)
+    return True
+
+
+def is_covered_at_once(ends, parts):
+    """As is_covered, for what is great: all webs are gone through until one is in none of the parts.
+
+    A state has the class of the node of the end set, and those of the nodes of the others.
+    """
+    starts, rows, values = side_by_side([ends, *parts])
+    lone = {at: values[at] for at, row in rows.items() if all([to == at for to in row])}
+    met = {}
+    stack = [(starts[0], sorted(set(starts[1:])))]
+    while stack:
+        asked, others = stack.pop()
+        state = (asked, *others)
+        # What is asked about has no web any more, or all of its webs are in one of the others.
+        if state in met or not lone.get(asked, True) or asked in others or any([lone.get(at) for at in others]):
+            continue
+        met[state] = True
+        if values[asked] and not any([values[at] for at in others]):
+            return False
+        for number, further in enumerate(rows[asked]):
+            behind = [rows[at][number] for at in others]
+            stack.append((further, sorted(set([at for at in behind if lone.get(at, True)]))))
+    return True
+
+
 def first_web(ends):
     """The first web of an end set, None if there is none."""
     webs = first_webs(ends.letters, [nexts_of(node) for node in ends.nodes])

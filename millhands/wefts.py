@@ -53,6 +53,21 @@ def run_on(book, weft, web):
     return web, None
 
 
+def gone_on(book, weft, place, web, is_bare):
+    """How far a weft goes from a place on, and what is left of its letters and the last ones read, web.
+
+    It stops where nothing is left and the next item has to see what is beneath, unless this is
+    known to be nothing; the place is -1 if a look does not see what it tells.
+    """
+    while place < len(weft) and (web != "" or is_bare):
+        if len(weft[place]) == 1:
+            web = laid_behind(book, web, weft[place])
+        elif not does_see(weft[place], web):
+            return -1, web
+        place += 1
+    return place, web
+
+
 def done(book, weft, web):
     """The web that a weft leaves, None if it does not fit."""
     check_weft(book.letters, weft)

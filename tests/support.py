@@ -3,8 +3,10 @@
 from itertools import product
 from random import Random
 
+from millhands.answers import status
 from millhands.books import Book
 from millhands.fans import Fan
+from millhands.logs import handed, with_item
 from millhands.readers import Reader
 from millhands.tellers import Teller
 
@@ -95,6 +97,32 @@ def some_log(random, letters, lots, items):
         earlier = tuple(ahead for ahead in range(number) if random.random() < 0.2)
         log.append((number, random.random() < 0.4, earlier, some_weft(random, letters, items // lots)))
     return tuple(log)
+
+
+def told_log(random, book, web, lots=4, items=6, lays=3):
+    """A log that is sound on a web: of what its hands ask by turns only what can be told there is told."""
+    log = tuple((at, False, tuple(ahead for ahead in range(at) if random.random() < 0.3), ()) for at in range(lots))
+    for _ in range(4 * items):
+        still = [lot[0] for lot in log if not lot[1]]
+        told = [item for lot in log for item in lot[3]]
+        number = random.choice(still)
+        if len(still) > 3 or (len(still) > 1 and random.random() < 0.1):
+            log = handed(log, number)
+            continue
+        laid = len([item for item in told if len(item) == 1])
+        found = status(book, log, (number, random.choice(book.letters + "??") if laid < lays else "?"), web)
+        if len(told) < items and found[0] == "told":
+            log = with_item(log, number, found[1])
+    return log
+
+
+def raised(kind, call):
+    """The error of a kind that a call raises; any other one goes on."""
+    try:
+        call()
+    except kind as error:
+        return error
+    raise AssertionError(kind)
 
 
 def seeded(number):

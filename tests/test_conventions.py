@@ -43,6 +43,20 @@ INTERFACE = {
     "sheds": "shed(book, log, outcome, *, most=400) shed_on(book, log, outcome, web) "
              "first_order(book, log, outcome, web) is_sound(book, log, web) sound_set(book, log) "
              "first_unsound(book, log) certain_set(book, log, outcome) free_set(book, log, number)",
+    "shedpapers": "judge_sound(book, log, ends) sound_holds(book, log, ends, thing) "
+                  "judge_certain(book, log, outcome, ends) certain_holds(book, log, outcome, ends, thing)",
+    "joinedlogs": "joined_set(book, one, other) first_barred_web(book, one, other) least_bars(book, one, other, web) "
+                  "most_kept(book, one, other, web)",
+    "wishes": "is_wish(letters, log, thing) items_of_wish(letters, log, wish) others_of(log, number) "
+              "is_release(log, number, thing) releases_of(log, number) released(log, release) "
+              "is_release_within(release, other)",
+    "answers": "fit_set(book, log, number, item, some) lets_set(book, log, number, item, release) "
+               "told_items(book, log, wish, web) least_releases(book, log, wish, web) status(book, log, wish, web) "
+               "status_teller(book, log, wish, *, most=400) first_with(book, log, wish, word) "
+               "with_set(book, log, wish, word)",
+    "answerpapers": "judge_status(book, log, wish, ends) status_holds(book, log, wish, ends, thing) "
+                    "row_status(letters, log, wish, row)",
+    "stuck": "hangs_on(book, log, wish, web) stuck_lots(book, log, wishes, web) ways_out(book, log, wishes, web)",
 }
 METHODS = {
     ("books", "Book"): "read(text) left_of(self, last, laid)",

@@ -4,8 +4,8 @@ import unittest
 
 from millhands.errors import BadTeller, BadText, BadWeb, OtherLetters
 from millhands.tellers import (Teller, all_webs, both, but_not, either, ending, ends_read, ends_text, first_web,
-                               is_empty, is_end_set, is_within, judge_within, lone_web, longest, many_webs, no_webs,
-                               within_holds)
+                               is_covered, is_covered_at_once, is_empty, is_end_set, is_within, judge_within, lone_web,
+                               longest, many_webs, no_webs, within_holds)
 from tests.support import WRONG, X, altered, seeded, some_ends, some_web, webs_to
 
 
@@ -268,6 +268,39 @@ class EndSets(unittest.TestCase):
         self.assertTrue(within_holds(all_webs("ab"), one, ("beyond", "")))
         for thing in WRONG + (("beyond", None), ("beyond", "c"), ("within", ((0,),)), ("within", (0, 0)), ("within", "")):
             self.assertIs(within_holds(one=one, other=all_webs("ab"), thing=thing), False)
+
+    def test_covered(self):
+        random = seeded(17)
+        kinds = set()
+        for turn in range(150):
+            letters = random.choice(["a", "ab", "abc"])
+            ends = some_ends(random, letters, 4)
+            parts = [some_ends(random, letters, 3) for _ in range(random.randint(0, 4))]
+            if turn % 3 == 0:
+                split = some_ends(random, letters, 3)
+                parts += [both(ends, split), but_not(ends, split)]
+                random.shuffle(parts)
+            union = no_webs(letters)
+            for part in parts:
+                union = either(union, part)
+            wanted = is_within(ends, union)
+            kinds.add((wanted, bool(parts)))
+            self.assertIs(is_covered(ends, parts), wanted)
+            self.assertIs(is_covered_at_once(ends, parts), wanted)
+        self.assertTrue({(True, True), (False, True), (False, False)} <= kinds)
+
+    def test_covered_by_many(self):
+        """Parts that only all together have all webs, and whose rests grow great on the way."""
+        random = seeded(18)
+        ends = [some_ends(random, "ab", 9) for _ in range(4)]
+        parts = [all_webs("ab")]
+        for split in ends:
+            parts = [part(held, split) for held in parts for part in (both, but_not)]
+        self.assertTrue(is_covered(all_webs("ab"), parts))
+        self.assertTrue(is_covered_at_once(all_webs("ab"), parts))
+        left = parts[1:] if not is_empty(parts[0]) else parts[:-1]
+        self.assertFalse(is_covered(all_webs("ab"), left))
+        self.assertFalse(is_covered_at_once(all_webs("ab"), left))
 
     def test_other_letters(self):
         one, other = all_webs("ab"), all_webs("abx")
