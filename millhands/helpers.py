@@ -88,14 +88,17 @@ def text_parts(word, text):
     return words[1], lines[1:]
 
 
-def nodes_read(word, text, node_of):
-    """The letters and the nodes that a text tells; node_of tells the node of a line, None if it tells none."""
+def nodes_read(word, text, node_of, most=None):
+    """The letters and the nodes, at most most of them, that a text tells.
+
+    node_of tells the node of a line, None if it tells none.
+    """
     letters, lines = text_parts(word, text)
     if not lines:
         raise BadText(2)
     nodes = []
     for line in lines:
-        nodes.append(node_of(letters, line, len(lines)))
+        nodes.append(None if len(nodes) == most else node_of(letters, line, len(lines)))
         if nodes[-1] is None:
             raise BadText(len(nodes) + 1)
     return letters, tuple(nodes)
@@ -118,12 +121,15 @@ def has_head(thing):
     return isinstance(thing, tuple) and len(thing) > 0 and isinstance(thing[0], str)
 
 
-def wrong_part(letters, nodes, is_node):
-    """The part of two values that keeps them from being letters and nodes, None if nothing does."""
+def wrong_part(letters, nodes, is_node, word="nodes", most=None):
+    """The part of two values that keeps them from being letters and nodes, None if nothing does.
+
+    word is what the nodes are called; there may be a number that they are at most.
+    """
     if not is_letters(letters):
         return "letters"
-    if not isinstance(nodes, tuple) or nodes == ():
-        return "nodes"
+    if not isinstance(nodes, tuple) or nodes == () or (most is not None and len(nodes) > most):
+        return word
     for number, node in enumerate(nodes):
         if not is_node(letters, node, len(nodes)):
             return number

@@ -68,6 +68,11 @@ def gone_on(book, weft, place, web, is_bare):
     return place, web
 
 
+def fits_web(book, weft, web):
+    """Whether what is known to be a weft fits what is known to be a web."""
+    return run_on(book, weft, web)[1] is None
+
+
 def done(book, weft, web):
     """The web that a weft leaves, None if it does not fit."""
     check_weft(book.letters, weft)

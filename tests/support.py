@@ -7,6 +7,7 @@ from millhands.answers import status
 from millhands.books import Book
 from millhands.fans import Fan
 from millhands.logs import handed, with_item
+from millhands.programs import Program
 from millhands.readers import Reader
 from millhands.tellers import Teller
 
@@ -97,6 +98,37 @@ def some_log(random, letters, lots, items):
         earlier = tuple(ahead for ahead in range(number) if random.random() < 0.2)
         log.append((number, random.random() < 0.4, earlier, some_weft(random, letters, items // lots)))
     return tuple(log)
+
+
+def some_program(random, letters, many):
+    deeds = []
+    for _ in range(many):
+        kind = random.random()
+        if kind < 0.55:
+            deeds.append(("lay", random.choice(letters), random.randrange(many)))
+        elif kind < 0.88:
+            deeds.append(("look", tuple(random.randrange(many) for _ in range(len(letters) + 1))))
+        else:
+            deeds.append(("stop",))
+    return Program(letters, tuple(deeds))
+
+
+def steps_by_hand(book, program, web, most):
+    """Yields the place, the web, and the item of each step of a run, and at last those of a stop, with None."""
+    place = 0
+    for _ in range(most):
+        deed = program.deeds[place]
+        if deed[0] == "stop":
+            yield place, web, None
+            return
+        if deed[0] == "look":
+            yield place, web, "?" + (web[-1:] or "-")
+            place = deed[1][1 + book.letters.index(web[-1]) if web else 0]
+        else:
+            yield place, web, deed[1]
+            left = book.left_of(web[-1:], deed[1])
+            web = web + deed[1] if left is None else web[:-1] + left
+            place = deed[2]
 
 
 def told_log(random, book, web, lots=4, items=6, lays=3):

@@ -57,12 +57,29 @@ INTERFACE = {
     "answerpapers": "judge_status(book, log, wish, ends) status_holds(book, log, wish, ends, thing) "
                     "row_status(letters, log, wish, row)",
     "stuck": "hangs_on(book, log, wish, web) stuck_lots(book, log, wishes, web) ways_out(book, log, wishes, web)",
+    "programs": "Program(letters, deeds) run(book, program, web, *, most=2000) program_of(letters, weft)",
+    "tables": "table_of(book, program) table_paper(book, program) table_holds(book, program, thing) "
+              "does_stop(book, program, web) web_left(book, program, web) track(book, program, place, seen) "
+              "does_climb(book, program, place, seen) program_reader(book, program) stops_where(book, program) "
+              "first_endless(book, program) greatest_growth(book, program) are_programs_alike(book, one, other) "
+              "first_unlike(book, one, other)",
+    "jumps": "steps_made(book, program, web) after(book, program, web, t)",
+    "rounds": "judge_rounds(book, weft, *, most=2000) rounds_hold(book, weft, thing) wheel(letters, weft)",
+    "takingback": "is_day(book, thing) day_reader(book, day) rest_of(day, numbers) going_set(book, day, numbers) "
+                  "can_lots_go(book, day, numbers, *, ends=None) going_with(book, day, number, *, ends=None) "
+                  "needed_by_nobody(book, day, *, ends=None) judge_lots(book, day, numbers, *, ends=None) "
+                  "lots_hold(book, day, numbers, thing, *, ends=None)",
+    "opposites": "is_one_one(reader) opposite(reader) judge_one_one(reader) one_one_holds(reader, thing)",
+    "undoing": "does_undo(book, reader, row, *, ends=None) undoing_row(book, reader, most, *, ends=None) "
+               "judge_undoing(book, reader, most, *, ends=None) undoing_holds(book, reader, most, thing, *, ends=None) "
+               "mending_row(book, day, numbers, most, *, ends=None)",
 }
 METHODS = {
     ("books", "Book"): "read(text) left_of(self, last, laid)",
     ("readers", "Reader"): "read(text) made(self, web) read_of(self, web) least(self) is_least(self)",
     ("tellers", "Teller"): "says(self, web) least(self) is_least(self)",
     ("fans", "Fan"): "made(self, web) least(self) is_least(self)",
+    ("programs", "Program"): "read(text)",
 }
 
 

@@ -24,8 +24,9 @@ def trees():
 
 
 def defined_names(tree):
-    """The names of classes and functions of a file."""
-    return {node.name for node in tree.body if isinstance(node, (ast.FunctionDef, ast.ClassDef))}
+    """The names of classes and functions of a file, and of its values."""
+    values = {node.targets[0].id for node in tree.body if isinstance(node, ast.Assign)}
+    return values | {node.name for node in tree.body if isinstance(node, (ast.FunctionDef, ast.ClassDef))}
 
 
 def imported_names(tree):
@@ -130,8 +131,11 @@ class Language(unittest.TestCase):
         for path, tree in trees():
             for node in tree.body:
                 self.assertIsInstance(node, plain, path.name)
-                if isinstance(node, (ast.Assign, ast.Expr)):
+                if isinstance(node, ast.Expr):
                     self.assertIsInstance(node.value, ast.Constant, path.name)
+                if isinstance(node, ast.Assign):
+                    self.assertEqual(len(node.targets), 1, path.name)
+                    ast.literal_eval(node.value)
 
 
 if __name__ == "__main__":
