@@ -2,8 +2,8 @@
 
 from itertools import combinations, permutations
 
-from millhands.passing import do_pass, first_barred
-from millhands.wefts import check_weft, reader_of
+from millhands.books import laid_behind
+from millhands.wefts import check_weft, does_see
 
 
 def items_of(book):
@@ -12,13 +12,50 @@ def items_of(book):
     return tuple(sorted(["?-", *looks, *book.letters]))
 
 
-def item_reader(book, item):
-    return reader_of(book, (item,))
+def item_left(book, item, web):
+    """The web that an item leaves of a web, None if it does not fit."""
+    if len(item) == 1:
+        return laid_behind(book, web, item)
+    return web if does_see(item, web) else None
+
+
+def telling_webs(book, item, further):
+    """The webs that tell whether two items pass, in order.
+
+    Two items see no more than two letters, and the one ahead of the last letter only where one of
+    them lets this go: on further webs they do what they do on the last letter of these alone.
+    """
+    gone = [last for last in book.letters if "" in (book.left_of(last, item), book.left_of(last, further))]
+    return ["", *book.letters] + [letter + last for letter in book.letters for last in gone]
+
+
+def does_bar(book, word, item, further, web):
+    """Whether two items do not pass as a word tells on a web."""
+    one = item_left(book, item, web)
+    other = item_left(book, further, web)
+    onward = None if one is None else item_left(book, further, one)
+    backward = None if other is None else item_left(book, item, other)
+    if word == "even":
+        return onward != backward
+    if word == "ahead":
+        return backward is not None and onward != backward
+    # Where both fit the web it is not enough that neither order fits.
+    return one is not None and other is not None and (onward is None or onward != backward)
+
+
+def first_barring(book, word, item, further):
+    """The first web on which two items do not pass as a word tells, None if there is none."""
+    for web in telling_webs(book, item, further):
+        if does_bar(book, word, item, further, web):
+            return web
+    return None
 
 
 def do_items_pass(book, word, item, further):
     """Whether two items pass as a word tells, on all webs."""
-    return do_pass(word, item_reader(book, item), item_reader(book, further))
+    check_weft(book.letters, (item,))
+    check_weft(book.letters, (further,))
+    return first_barring(book, word, item, further) is None
 
 
 def item_pairs(book, word):
@@ -31,10 +68,9 @@ def item_pairs(book, word):
 
 def barred_items(book, word):
     """The ascending tuple of the unlike items that do not pass as a word tells, with the first web that bars."""
-    readers = {item: item_reader(book, item) for item in items_of(book)}
     rows = []
     for item, further in item_pairs(book, word):
-        web = first_barred(word, readers[item], readers[further])
+        web = first_barring(book, word, item, further)
         if web is not None:
             rows.append((item, further, web))
     return tuple(sorted(rows))
