@@ -12,7 +12,7 @@ from millhands.wishes import check_wish, items_of_wish, least_ones, others_of, r
 
 def sets_of_others(log, number):
     """All sets of the others of a wish, in order: those with fewer numbers are ahead."""
-    others = others_of(log, number)
+    others = list(others_of(log, number))
     return [some for many in range(len(others) + 1) for some in combinations(others, many)]
 
 

@@ -56,7 +56,8 @@ def deed_line(deed):
     if deed[0] == "lay":
         return f"lay {deed[1]} {deed[2]}"
     if deed[0] == "look":
-        return " ".join(["look", *[str(place) for place in deed[1]]])
+        words = [str(place) for place in deed[1]]
+        return " ".join(["look", *words])
     return "stop"
 
 

@@ -37,7 +37,7 @@ class Fitting:
     def entries(self, lots, web):
         """The beginnings of each lot that can stand behind some lots, of which something is left on a web."""
         free = [at for at, bars in enumerate(self.bars) if not lots & bars]
-        return [(lots, at, 0, web) for at in free if self.aims_of(lots | 1 << at)]
+        return [(lots, at, 0, web) for at in free if self.aims_of(lots | (1 << at))]
 
     def tried(self, runs, is_bare, fits):
         """The threads that come of some runs, each a thread and what it sees, and what fits by them and already."""
@@ -76,7 +76,7 @@ class Fitting:
             for one in further:
                 threads[one] = True
         fits &= self.all_wanted
-        left = [one for one in threads if self.aims_of(one[0] | 1 << one[1]) & ~fits]
+        left = [one for one in threads if self.aims_of(one[0] | (1 << one[1])) & ~fits]
         return tuple(sorted(left)), fits
 
     def nexts(self, state):
@@ -224,7 +224,7 @@ def first_unfit(book, log, web):
     """The first outcome of a log that has no order that fits a web, None if each one has one."""
     fits = log_fitting(book, log).fits_on(web)
     for outcome, lots in zip(outcomes(log), outcome_lots(log)):
-        if not fits & 1 << lots:
+        if not fits & (1 << lots):
             return outcome
     return None
 

@@ -76,7 +76,7 @@ class Runs:
         spots, index = self.track_from(row)
         return any([self.rises(spot) for spot in spots[index:]])
 
-    def reader(self):
+    def least_reader(self):
         """The least reader of what the program makes: a node for each place, and behind them those that stop."""
         nodes = []
         stops = []
@@ -187,7 +187,7 @@ def does_climb(book, program, place, seen):
 
 def program_reader(book, program):
     """The least reader of what a program makes of each web."""
-    return Runs(book, program).reader()
+    return Runs(book, program).least_reader()
 
 
 def stops_where(book, program):

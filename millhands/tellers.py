@@ -240,7 +240,7 @@ def is_covered(ends, parts):
     rest = ends
     web = first_web(rest)
     while web is not None:
-        part = next((part for part in parts if part.says(web)), None)
+        part = next((held for held in parts if held.says(web)), None)
         if part is None:
             return False
         rest = but_not(rest, part)
