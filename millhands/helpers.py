@@ -4,6 +4,7 @@ from millhands.errors import BadText, OtherLetters, TooMany
 
 ALPHABET = "abcdefghijklmnopqrstuvwxyz"
 DIGITS = "0123456789"
+MOST_FIGURES = 4300
 
 
 def is_letters(thing):
@@ -61,14 +62,19 @@ def check_same_letters(letters, others):
         raise OtherLetters()
 
 
-def number_read(text, many):
-    """The number below many that Python writes as this text, None if there is none."""
+def integer_read(text):
+    """The integer from 0 on that Python writes as this text, None if there is none."""
     if text == "" or any([figure not in DIGITS for figure in text]) or (text[0] == "0" and text != "0"):
         return None
+    # Python writes no integers with more figures.
+    return int(text) if len(text) <= MOST_FIGURES else None
+
+
+def number_read(text, many):
+    """The number below many that Python writes as this text, None if there is none."""
     # No number of a node has so many figures: none has to be made of them.
-    if len(text) > 12 or int(text) >= many:
-        return None
-    return int(text)
+    number = integer_read(text) if len(text) <= 12 else None
+    return number if number is not None and number < many else None
 
 
 def numbers_read(words, many):
@@ -178,6 +184,31 @@ def first_webs(letters, nexts):
         found.update(fresh)
         level = fresh
     return found
+
+
+def first_said(letters, start, look):
+    """The first web of which the machine that begins with a state says True, None if there is none.
+
+    look as explored tells. Of each state the first web that leads to it is enough.
+    """
+    met = {start: True}
+    level = {start: ""}
+    while level:
+        found = []
+        fresh = {}
+        for state, web in level.items():
+            value, nexts = look(state)
+            if value:
+                found.append(web)
+            for letter, to in zip(letters, nexts or ()):
+                if to not in met and (to not in fresh or letter + web < fresh[to]):
+                    fresh[to] = letter + web
+        if found:
+            return min(found)
+        for state in fresh:
+            met[state] = True
+        level = fresh
+    return None
 
 
 def met_from(starts, classes, nexts):

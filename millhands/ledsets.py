@@ -1,8 +1,8 @@
 """End sets that readers lead from and into, and papers about readers that are alike."""
 
 from millhands.books import is_web
-from millhands.helpers import are_same, check_same_letters, is_paper, nexts_of, walked
-from millhands.tellers import all_webs, but_not, first_web, nexts_at, said_from, told
+from millhands.helpers import are_same, check_same_letters, first_said, is_paper, nexts_of, walked
+from millhands.tellers import nexts_at, said_from, told
 
 
 def domain(reader):
@@ -18,27 +18,40 @@ def domain(reader):
 
 
 def alike_set(one, other):
-    """The least end set of the webs of which two readers make the same, or both nothing.
+    """The least end set of the webs of which two readers make the same, or both nothing."""
+    check_same_letters(one.letters, [other.letters])
+    left, right = one.least(), other.least()
+    return told(one.letters, (side_of(left, 0), side_of(right, 0)), sides_said(left, right, True))
+
+
+def first_apart(one, other):
+    """The first web of which two readers make unlike things, None if they are alike."""
+    check_same_letters(one.letters, [other.letters])
+    left, right = one.least(), other.least()
+    if left == right:
+        return None
+    return first_said(one.letters, (side_of(left, 0), side_of(right, 0)), sides_said(left, right, False))
+
+
+def sides_said(left, right, said):
+    """The look of a machine by which two least readers read one web; of webs of which they make the same it says said.
 
     A side of a state is a number of a node, or, where its reader has stopped, the word that
     stands behind what is still unread.
     """
-    check_same_letters(one.letters, [other.letters])
-    left = one.least()
-    right = other.least()
     left_ends = word_ends(left)
     right_ends = word_ends(right)
 
     def look(state):
         side, further = state
-        value = made_bare(left, side) == made_bare(right, further)
         if are_parted(side, right, further, right_ends) or are_parted(further, left, side, left_ends):
-            return False, None
+            return not said, None
+        value = (made_bare(left, side) == made_bare(right, further)) == said
         if is_done(left, side) and is_done(right, further):
             return value, None
         return value, tuple(zip(next_sides(left, side), next_sides(right, further)))
 
-    return told(one.letters, (side_of(left, 0), side_of(right, 0)), look)
+    return look
 
 
 def side_of(reader, at):
@@ -182,11 +195,6 @@ def led_state(ends, tree, state, letter):
     if fresh is not None:
         further.extend(tree[fresh])
     return fresh, kept_places(ends, further)
-
-
-def first_apart(one, other):
-    """The first web of which two readers make unlike things, None if they are alike."""
-    return first_web(but_not(all_webs(one.letters), alike_set(one, other)))
 
 
 def judge_alike(one, other):

@@ -2,9 +2,9 @@
 
 from millhands.books import check_web, is_web
 from millhands.errors import BadTeller, TooMany
-from millhands.helpers import (are_same, check_same_letters, explored, first_webs, found_of, has_head, is_ascending,
-                               is_below, is_paper, is_reading, met_from, nexts_of, nodes_read, numbers_read, refined,
-                               walked, wrong_part)
+from millhands.helpers import (are_same, check_same_letters, explored, first_said, first_webs, found_of, has_head,
+                               is_ascending, is_below, is_paper, is_reading, met_from, nexts_of, nodes_read,
+                               numbers_read, refined, walked, wrong_part)
 
 
 class Teller:
@@ -171,9 +171,8 @@ def ending(letters, end):
     return spelled(letters, end, (True, None))
 
 
-def combined(one, other, truth):
-    """The least end set of the webs for which truth holds of what the one and the other say."""
-    check_same_letters(one.letters, [other.letters])
+def pairs_said(one, other, truth):
+    """The look of a machine that goes through both end sets at once, and says what truth tells of both."""
 
     def look(pair):
         left, right = pair
@@ -182,7 +181,19 @@ def combined(one, other, truth):
             return value, None
         return value, next_pairs(one, other, pair)
 
-    return told(one.letters, (0, 0), look)
+    return look
+
+
+def combined(one, other, truth):
+    """The least end set of the webs for which truth holds of what the one and the other say."""
+    check_same_letters(one.letters, [other.letters])
+    return told(one.letters, (0, 0), pairs_said(one, other, truth))
+
+
+def first_where(one, other, truth):
+    """The first web for which truth holds of what the one and the other say, None if there is none."""
+    check_same_letters(one.letters, [other.letters])
+    return first_said(one.letters, (0, 0), pairs_said(one, other, truth))
 
 
 def next_pairs(one, other, pair):
@@ -207,13 +218,23 @@ def but_not(one, other):
     return combined(one, other, lambda left, right: left and not right)
 
 
+def first_beyond(one, other):
+    """The first web of the one end set that is not in the other, None if there is none."""
+    return first_where(one, other, lambda left, right: left and not right)
+
+
+def are_apart(one, other):
+    """Whether no web is in both end sets."""
+    return first_where(one, other, lambda left, right: left and right) is None
+
+
 def is_empty(ends):
     return first_web(ends) is None
 
 
 def is_within(one, other):
     """Whether each web of the one end set is one of the other."""
-    return is_empty(but_not(one, other))
+    return first_beyond(one, other) is None
 
 
 def side_by_side(tellers):
@@ -309,7 +330,7 @@ def longest_from(node, known):
 
 def judge_within(one, other):
     """Any paper that the one end set is within the other, or the first web that is beyond."""
-    web = first_web(but_not(one, other))
+    web = first_beyond(one, other)
     if web is not None:
         return ("beyond", web)
     pairs = {(0, 0): True}

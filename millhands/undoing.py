@@ -93,10 +93,20 @@ def undoing_holds(book, reader, most, thing, *, ends=None):
         return leading.asked.says(thing[1]) and leading.asked.says(thing[2])
     if not is_paper(thing, "none", 2) or not isinstance(thing[1], tuple):
         return False
-    rows = rows_to(book.letters, most)
-    if len(thing[1]) != len(rows):
+    if not are_so_many(book.letters, most, len(thing[1])):
         return False
-    return all([is_failing(leading, row, pair) for row, pair in zip(rows, thing[1])])
+    return all([is_failing(leading, row, pair) for row, pair in zip(rows_to(book.letters, most), thing[1])])
+
+
+def are_so_many(letters, most, many):
+    """Whether there are just so many rows of at most most letters; of very long ones they are not gone through."""
+    level = 1
+    for _ in range(most):
+        many -= level
+        if many <= 0:
+            return False
+        level *= len(letters)
+    return many == level
 
 
 def is_failing(leading, row, thing):

@@ -5,6 +5,7 @@ from random import Random
 
 from millhands.answers import status
 from millhands.books import Book
+from millhands.duels import Duel
 from millhands.fans import Fan
 from millhands.logs import handed, with_item
 from millhands.programs import Program
@@ -111,6 +112,33 @@ def some_program(random, letters, many):
         else:
             deeds.append(("stop",))
     return Program(letters, tuple(deeds))
+
+
+def some_shelf(random, letters, most=4):
+    """A shelf of at most so many wefts, of at most 4 items each and 8 together."""
+    left = 8
+    shelf = []
+    for _ in range(random.randint(1, most)):
+        weft = some_weft(random, letters, min(4, left))
+        if random.random() < 0.4:
+            weft = tuple(random.choice(letters) for _ in weft)
+        left -= len(weft)
+        shelf.append(weft)
+    return tuple(shelf)
+
+
+def some_turn(random, letters, many, most):
+    """A turn of a duel of so many turns, with at most so many moves."""
+    laid = sorted(random.sample(letters, random.randint(1, min(most, len(letters)))))
+    return random.randint(0, 1), tuple((letter, random.randrange(many)) for letter in laid)
+
+
+def some_duel(random, letters, many, most=3):
+    return Duel(letters, tuple(some_turn(random, letters, many, most) for _ in range(many)))
+
+
+def some_goal(random, letters):
+    return ("bare",) if random.random() < 0.4 else ("last", random.choice(letters))
 
 
 def steps_by_hand(book, program, web, most):

@@ -4,16 +4,27 @@ import ast
 import importlib
 import inspect
 import pathlib
+import re
 import unittest
 
 from millhands.books import Book, laid_on, led
+from millhands.console import Console
+from millhands.duels import Duel
+from millhands.fans import Fan
+from millhands.gates import Gate
 from millhands.ledsets import led_from
 from millhands.logs import handed, joined_logs, kept
+from millhands.mills import Mill
+from millhands.players import Player
+from millhands.programs import Program
 from millhands.readers import Reader, joined
 from millhands.sheds import shed, sound_set
 from millhands.tellers import Teller, both
+from millhands.weavings import Weaving
 from tests.support import POP, X, seeded, some_ends
 
+# What the sections of the interface call beside their own names.
+OTHERS = ("len", "str")
 ROOT = pathlib.Path(__file__).resolve().parent.parent
 INTERFACE = {
     "books": "Book(letters, folds) is_web(letters, thing) is_ahead(one, other) laid_on(book, web, letter) "
@@ -73,6 +84,30 @@ INTERFACE = {
     "undoing": "does_undo(book, reader, row, *, ends=None) undoing_row(book, reader, most, *, ends=None) "
                "judge_undoing(book, reader, most, *, ends=None) undoing_holds(book, reader, most, thing, *, ends=None) "
                "mending_row(book, day, numbers, most, *, ends=None)",
+    "courses": "is_shelf(letters, thing) course_led(book, shelf, web, course) standing(book, shelf, start, *, most=400) "
+               "coming(book, shelf, goal, *, most=400) fewest_wefts(book, shelf, start, goal) is_closed(book, shelf, ends) "
+               "longest_standing(book, shelf, start) idle_wefts(book, shelf, start) sights(book, shelf, start)",
+    "coursepapers": "judge_courses(book, shelf, start, goal, *, longest=200) "
+                    "courses_hold(book, shelf, start, goal, thing) first_stuck(book, shelf, start, goal) "
+                    "judge_back(book, shelf, start, goal, *, longest=200) back_holds(book, shelf, start, goal, thing)",
+    "longrows": "row_reader(book, row) are_rows_alike(book, one, other) does_nothing(book, row) idle_letters(book, row) "
+                "plain_row(book, row) ones(book, row) one_again(book, one, other, tail) "
+                "one_again_on(book, web, one, other, tail) judge_one(book, one, other, tail) "
+                "one_holds(book, one, other, tail, thing)",
+    "weavings": "webs_along(book, web, row) events(book, web, row) sources(book, web, row) Weaving(book, web, row)",
+    "mills": "Mill(book, web='')",
+    "gates": "Gate(mill) promise_breaks(mill, promise) does_promise_hold(mill, promise) "
+             "breaks_holds(mill, promise, thing)",
+    "duels": "Duel(letters, turns) is_goal(letters, thing) is_at(goal, web)",
+    "forcing": "forced(book, duel, goal) does_force(book, duel, goal, turn, letter, lot) "
+               "does_hold_back(book, duel, goal, turn, letter, lot) winning_turns(book, duel, goal, web) "
+               "does_win(book, duel, goal, web) winners(book, duel, goal) first_won(book, duel, goal) "
+               "first_lost(book, duel, goal)",
+    "duelpapers": "judge_duel(book, duel, goal, web) duel_holds(book, duel, goal, web, thing)",
+    "players": "Player(book, duel, goal, web, hand)",
+    "logtexts": "log_text(log) log_read(letters, text)",
+    "findings": "finding_holds(thing)",
+    "console": "Console()",
 }
 METHODS = {
     ("books", "Book"): "read(text) left_of(self, last, laid)",
@@ -80,7 +115,23 @@ METHODS = {
     ("tellers", "Teller"): "says(self, web) least(self) is_least(self)",
     ("fans", "Fan"): "made(self, web) least(self) is_least(self)",
     ("programs", "Program"): "read(text)",
+    ("weavings", "Weaving"): "web_at(self, place) change(self, start, end, letters) undo(self)",
+    ("mills", "Mill"): "begin(self) ask(self, number, deed) hand_in(self, number) take_out(self, number) drop(self, number) "
+                       "status(self, number) undo(self) redo(self) tried(self, action)",
+    ("gates", "Gate"): "names(self) weft(self, name) promises(self) put(self, name, weft) take_away(self, name) "
+                       "put_promise(self, promise) bring(self, book)",
+    ("duels", "Duel"): "read(text)",
+    ("players", "Player"): "move(self) hear(self, letter) undo(self)",
+    ("console", "Console"): "run(self, command)",
 }
+PROPERTIES = {
+    ("weavings", "Weaving"): ("row_now", "web_now"),
+    ("mills", "Mill"): ("book_now", "web_now", "log_now", "kept_now", "news_now"),
+    ("players", "Player"): ("web_now", "turn_now", "is_over"),
+}
+WITHOUT_LENGTH = ("Gate", "Console")
+WITH_EQUALITY = ("Book", "Reader", "Teller", "Fan", "Program", "Duel")
+WITH_TEXTS = ("Book", "Reader", "Program", "Duel")
 
 
 def signatures(text):
@@ -106,8 +157,28 @@ class Conventions(unittest.TestCase):
             for method, parameters in signatures(text):
                 self.assertIn(method, vars(kind))
                 self.assertEqual(str(inspect.signature(getattr(kind, method))), parameters, method)
-            for method in ("__init__", "__len__", "__eq__"):
-                self.assertIn(method, vars(kind))
+            self.assertIn("__init__", vars(kind))
+            self.assertEqual("__len__" in vars(kind), name not in WITHOUT_LENGTH)
+            self.assertEqual("__eq__" in vars(kind), name in WITH_EQUALITY)
+            self.assertEqual("__str__" in vars(kind), name in WITH_TEXTS)
+            for held in PROPERTIES.get((stem, name), ()):
+                self.assertIsInstance(vars(kind)[held], property)
+
+    def test_all_of_the_document_is_listed(self):
+        """Each name that a section of the interface lists for a file is one of those that are tested here."""
+        document = ROOT.parent / "shared" / "DOC.md"
+        if not document.exists():
+            self.skipTest("the document is not here")
+        sections = re.split(r"^## millhands/(\w+)\.py$", document.read_text(), flags=re.MULTILINE)
+        for stem, text in zip(sections[1::2], sections[2::2]):
+            lines = text.split("\n# ")[0].split("Examples, worked out by hand")[0].split("\n")
+            found = set()
+            for line in lines:
+                if line.startswith("- "):
+                    found |= set(re.findall(r"`(\w+)\(", line)) if stem != "errors" else set()
+            known = {name for name, _ in signatures(INTERFACE.get(stem, "f()"))}
+            known |= {method for (where, _), text in METHODS.items() if where == stem for method, _ in signatures(text)}
+            self.assertEqual({name for name in found - known if name[0].islower() and name not in OTHERS}, set(), stem)
 
     def test_nothing_passed_is_changed(self):
         random = seeded(100)
@@ -135,8 +206,11 @@ class Conventions(unittest.TestCase):
             self.assertEqual(led_from(X, ends, most=5000), led_from(Reader(X.letters, X.nodes), again, most=5000))
 
     def test_objects_of_unlike_classes_are_unequal(self):
-        objects = [Book("ab", ()), Reader("ab", (("none",),)), Teller("ab", (("says", True),)),
-                   importlib.import_module("millhands.fans").Fan("ab", (("stops", ()),))]
+        mill = Mill(Book("ab", ()))
+        duel = Duel("ab", ((0, (("a", 0),)),))
+        objects = [Book("ab", ()), Reader("ab", (("none",),)), Teller("ab", (("says", True),)), Fan("ab", (("stops", ()),)),
+                   Program("ab", (("stop",),)), duel, Weaving(Book("ab", ()), "", ""), mill, Gate(mill), Console(),
+                   Player(Book("ab", ()), duel, ("last", "a"), "", 0)]
         for one in objects:
             for other in objects:
                 self.assertEqual(one == other, one is other)
