@@ -51,7 +51,8 @@ class Unions:
         rows = []
         while len(rows) < len(heads):
             row = []
-            for places in self.nexts(heads[len(rows)]):
+            head = heads[len(rows)]
+            for places in self.nexts(head):
                 marks = self.marks_of(places)
                 if marks not in numbers:
                     numbers[marks] = len(heads)
@@ -77,6 +78,7 @@ class Unions:
                     held[places] = to
                     pairs.append((places, to, None, None))
         first = len(pairs)
+        joins = [(places, heads[at]) for places, at, _, _ in pairs]
         tests = {}
         number = 0
         while number < len(pairs) and (number < first or not tests):
@@ -86,9 +88,10 @@ class Unions:
                 apart = 0 if held.get(further) == to else self.marks_of(further) ^ self.marks_of(heads[to])
                 if apart:
                     self.note_tests(apart, letter, pairs, number, tests)
-                elif further not in held and not are_joined(further, heads[to], pairs, heads):
+                elif further not in held and not are_joined(further, heads[to], joins):
                     held[further] = to
                     pairs.append((further, to, number, letter))
+                    joins.append((further, heads[to]))
             number += 1
         return list(tests)
 
@@ -111,20 +114,26 @@ def places_behind(places, row):
     return found
 
 
-def are_joined(one, other, pairs, heads):
-    """Whether two sets are alike if all pairs are: whatever has one set of a pair is alike with the other one, too."""
-    return other & ~closed(one, pairs, heads) == 0 and one & ~closed(other, pairs, heads) == 0
+def are_joined(one, other, joins):
+    """Whether two sets are alike if both sets of each join are: whatever has one of them may have the other one, too."""
+    return is_covered(other, one, joins) and is_covered(one, other, joins)
 
 
-def closed(places, pairs, heads):
-    """A set with all that makes no change if all pairs are alike."""
-    many = -1
-    while many != places:
-        many = places
-        for one, at, _, _ in pairs:
-            if one & ~places == 0 or heads[at] & ~places == 0:
-                places |= one | heads[at]
-    return places
+def is_covered(wanted, places, joins):
+    """Whether a set, with all that makes no change if both sets of each join are alike, has all of a wanted one."""
+    while wanted & ~places != 0:
+        found = places
+        left = []
+        for one, other in joins:
+            if one & ~found == 0 or other & ~found == 0:
+                found |= one | other
+            else:
+                left.append((one, other))
+        if found == places:
+            return False
+        places = found
+        joins = left
+    return True
 
 
 def least_union(letters, moves, ends, whole, start, most):

@@ -248,6 +248,20 @@ class Courses(unittest.TestCase):
         # Where nothing is raised for most, what is asked for is told all the same.
         self.assertIsNone(longest_standing(PLAIN, (("a",),), lone_web("ab", "b" * 420)))
 
+    def test_sets_that_were_returned(self):
+        """Great end sets that were returned are asked about again: nothing more stands or comes."""
+        book = Book("abc", (("a", "a", "c"), ("a", "b", "c"), ("b", "b", ""), ("b", "c", "a"), ("c", "a", "a"), ("c", "b", ""),
+                            ("c", "c", "c")))
+        shelf = (("?-",), ("?b", "b"), ("b", "b", "?c"))
+        for number, many in ((52, 132), (60, 106), (117, 167)):
+            comes = coming(book, shelf, some_ends(seeded(number), "abc", 8))
+            self.assertEqual(len(comes), many)
+            self.assertEqual(coming(book, shelf, comes), comes)
+            stands = standing(book, shelf, comes)
+            self.assertTrue(is_closed(book, shelf, stands) and is_within(comes, stands))
+            self.assertEqual(standing(book, shelf, stands), stands)
+            self.assertEqual(fewest_wefts(book, shelf, stands, comes), 0)
+
     def test_counts(self):
         """Words that letters of two kinds make, counted."""
         stands = standing(PLAIN, (("a", "b"), ("b", "a")), BARE)
