@@ -115,7 +115,7 @@ def places_behind(places, row):
 
 
 def are_joined(one, other, joins):
-    """Whether two sets are alike if both sets of each join are: whatever has one of them may have the other one, too."""
+    """Whether two sets are alike if both sets of each join are: what has all of one may have the other one, too."""
     return is_covered(other, one, joins) and is_covered(one, other, joins)
 
 
