@@ -36,7 +36,7 @@ class Forcing:
         """Notes what comes of all that is known; whether it is more."""
         fresh = [(spot, lot) for spot, lots in further.items() for lot in lots if not is_let(self.lots[spot], lot)]
         for spot, lot in fresh:
-            self.found[(*spot, lot)] = self.rounds
+            self.found[spot + (lot,)] = self.rounds
         self.lots = further
         return len(fresh) > 0
 

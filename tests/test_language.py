@@ -167,12 +167,14 @@ class Language(unittest.TestCase):
         self.assertFalse(named & (set(dir(str)) | set(dir(dict)) | set(dir(list)) | set(dir(int)) | set(dir(set))))
 
     def test_stars(self):
-        """Behind a star in a call stands a name, in a tuple or a list nothing that is made on the spot."""
+        """Behind a star in a call stands a name, in a tuple or a list nothing that is made on the spot; none in an index."""
         for path, tree in trees():
             for node in ast.walk(tree):
+                if isinstance(node, ast.Subscript):
+                    self.assertFalse([part for part in ast.walk(node.slice) if isinstance(part, ast.Starred)], path.name)
                 if isinstance(node, ast.Call):
                     for star in [part for part in node.args if isinstance(part, ast.Starred)]:
-                        self.assertIsInstance(star.value, (ast.Name, ast.Call), (path.name, node.lineno))
+                        self.assertIsInstance(star.value, (ast.Name, ast.Attribute), (path.name, node.lineno))
                 if isinstance(node, (ast.Tuple, ast.List)):
                     for star in [part for part in node.elts if isinstance(part, ast.Starred)]:
                         self.assertNotIsInstance(star.value, (ast.ListComp, ast.GeneratorExp, ast.List), (path.name, node.lineno))
