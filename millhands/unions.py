@@ -116,10 +116,10 @@ def places_behind(places, row):
 
 def are_joined(one, other, joins):
     """Whether two sets are alike if both sets of each join are: what has all of one may have the other one, too."""
-    return is_covered(other, one, joins) and is_covered(one, other, joins)
+    return does_follow(other, one, joins) and does_follow(one, other, joins)
 
 
-def is_covered(wanted, places, joins):
+def does_follow(wanted, places, joins):
     """Whether a set, with all that makes no change if both sets of each join are alike, has all of a wanted one."""
     while wanted & ~places != 0:
         found = places

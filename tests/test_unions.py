@@ -4,7 +4,7 @@ import unittest
 
 from millhands.errors import TooMany
 from millhands.tellers import all_webs, no_webs, told
-from millhands.unions import is_covered, least_union
+from millhands.unions import does_follow, least_union
 from tests.support import raised, seeded
 
 
@@ -61,14 +61,14 @@ class Unions(unittest.TestCase):
         found = least_union("ab", moves, 1 << 24 | 1 << 25, 0, 1 | 1 << 25, 400)
         self.assertEqual(found, all_webs("ab"))
 
-    def test_is_covered(self):
-        self.assertTrue(is_covered(0, 0, []))
-        self.assertTrue(is_covered(5, 5, []))
-        self.assertFalse(is_covered(5, 4, []))
-        self.assertTrue(is_covered(5, 4, [(4, 1)]))
-        self.assertTrue(is_covered(5, 4, [(1, 4)]))
-        self.assertTrue(is_covered(9, 4, [(2, 8), (4, 3)]))
-        self.assertFalse(is_covered(9, 4, [(2, 8), (6, 3)]))
+    def test_does_follow(self):
+        self.assertTrue(does_follow(0, 0, []))
+        self.assertTrue(does_follow(5, 5, []))
+        self.assertFalse(does_follow(5, 4, []))
+        self.assertTrue(does_follow(5, 4, [(4, 1)]))
+        self.assertTrue(does_follow(5, 4, [(1, 4)]))
+        self.assertTrue(does_follow(9, 4, [(2, 8), (4, 3)]))
+        self.assertFalse(does_follow(9, 4, [(2, 8), (6, 3)]))
 
 
 if __name__ == "__main__":
